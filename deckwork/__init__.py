@@ -1,0 +1,1 @@
+"""Deckwork: decks of cards that are programs."""
