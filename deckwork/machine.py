@@ -51,9 +51,14 @@ def choose_start(deck, start):
     """Return the state from which a parsed deck is executed."""
     if start is None:
         return first_state(deck)
-    if not is_state(deck, start):
-        raise InvalidState("the start is no state of the deck")
+    check_state(deck, start)
     return start
+
+
+def check_state(deck, value):
+    """Raise InvalidState if a value is no state of a parsed deck."""
+    if not is_state(deck, value):
+        raise InvalidState("not a state of the deck")
 
 
 def first_state(deck):

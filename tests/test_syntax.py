@@ -2,17 +2,49 @@
 
 import unittest
 
-from deckwork.errors import CheckFault, SyntaxFault
+from deckwork.backward import comes_again, predecessors, reaches
+from deckwork.comparison import are_equal, first_difference
+from deckwork.counting import count_acts, count_emitted, first_emitted, idle_cards, nth_emitted
+from deckwork.errors import CheckFault, InvalidState, SyntaxFault, UnknownCard
 from deckwork.formatter import card_names, format_deck
 from deckwork.machine import find_cycle, state_after, trace
+from deckwork.simplifier import measure, simplify
 
 NO_TEXTS = (None, True, False, 0, 7, (), [], ["wrap 2; a: -> 0;"], ("wrap 2; a: -> 0;",))
+GOOD = "wrap 2; a: -> 0;"
+
+
+def refused(call, error):
+    """Return a function that takes a deck and calls another one, which raises this error for a valid deck."""
+    def take(deck):
+        try:
+            call(deck)
+        except error:
+            return
+        raise AssertionError("no error")
+    return take
+
+
 TAKERS = (
     format_deck,
     card_names,
     lambda deck: state_after(deck, 0),
     lambda deck: list(trace(deck, 0)),
     find_cycle,
+    lambda deck: count_emitted(deck, 0),
+    refused(lambda deck: count_acts(deck, None, 0), UnknownCard),
+    lambda deck: first_emitted(deck, 0),
+    lambda deck: nth_emitted(deck, 0),
+    idle_cards,
+    refused(lambda deck: predecessors(deck, None), InvalidState),
+    refused(lambda deck: comes_again(deck, None), InvalidState),
+    refused(lambda deck: reaches(deck, None, None), InvalidState),
+    lambda deck: first_difference(deck, GOOD),
+    lambda deck: first_difference(GOOD, deck),
+    lambda deck: are_equal(deck, GOOD),
+    lambda deck: are_equal(GOOD, deck),
+    simplify,
+    measure,
 )
 
 
