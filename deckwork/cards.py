@@ -1,7 +1,8 @@
 """A deck after parsing: its cards, their actions and their puts.
 
 Actions and puts are tuples that begin with one of the kinds below; registers
-are numbered from 0.
+are numbered from 0. The tuples are the bytes of the actions and puts, too
+(point 11), so the numbers of the kinds are fixed.
 """
 
 REGISTERS = ("p", "q", "r", "s")

@@ -32,4 +32,9 @@ def are_registers(deck, value):
     """Return whether a value is a tuple of values of all registers."""
     if not isinstance(value, tuple) or len(value) != len(REGISTERS):
         return False
-    return all([is_within(number, 0, deck.wrap - 1) for number in value])
+    return all([is_value(deck, number) for number in value])
+
+
+def is_value(deck, value):
+    """Return whether a value is one that a register can have."""
+    return is_within(value, 0, deck.wrap - 1)

@@ -2,8 +2,7 @@
 
 from deckwork.cards import EMIT_LETTER, EMIT_NUMBER
 from deckwork.emission import Emission
-from deckwork.errors import UnknownCard
-from deckwork.machine import MOST_STEPS, SHORT_STEPS, act, check_count, choose_start, list_states
+from deckwork.machine import MOST_STEPS, SHORT_STEPS, act, check_card, check_count, choose_start, list_states
 from deckwork.parser import parse_deck
 
 MOST_LISTED = 500
@@ -21,9 +20,7 @@ def count_emitted(deck, count, *, start=None):
 def count_acts(deck, name, count, *, start=None):
     """Return how often a card acts in a number of steps."""
     parsed = parse_deck(deck)
-    # A name can be of any kind, and a list cannot be looked up in a dict.
-    if name not in parsed.names:
-        raise UnknownCard("the deck has no card with this name")
+    check_card(parsed, name)
     check_count(count, MOST_STEPS)
     weights = {other: 0 for other in parsed.names}
     weights[name] = 1

@@ -2,7 +2,7 @@
 
 from deckwork.cards import ADD, COPY, EMIT_LETTER, PUT_LETTER, PUT_NUMBER, REGISTERS, SWAP
 from deckwork.checks import is_state, is_within
-from deckwork.errors import InvalidCount, InvalidState, TooLong
+from deckwork.errors import InvalidCount, InvalidState, TooLong, UnknownCard
 from deckwork.parser import parse_deck
 
 MOST_STEPS = 10 ** 18
@@ -59,6 +59,13 @@ def check_state(deck, value):
     """Raise InvalidState if a value is no state of a parsed deck."""
     if not is_state(deck, value):
         raise InvalidState("not a state of the deck")
+
+
+def check_card(deck, name):
+    """Raise UnknownCard if a parsed deck has no card with this name."""
+    # A name can be of any kind, and a list cannot be looked up in a dict.
+    if name not in deck.names:
+        raise UnknownCard("the deck has no card with this name")
 
 
 def first_state(deck):

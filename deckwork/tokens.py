@@ -74,20 +74,20 @@ def find_kind(text):
         return text
     if text in REGISTERS:
         return "letter"
-    if is_name(text):
+    if is_word(text):
         return "name"
     if is_number(text):
         return "number"
     return None
 
 
-def is_name(text):
-    """Return whether a text that is no keyword and no register is a name."""
-    return len(text) <= LONGEST_WORD and skip(text, 0, LETTERS) == len(text)
+def is_word(text):
+    """Return whether a text has one to eight letters a to z; keywords and registers have them, too."""
+    return 1 <= len(text) <= LONGEST_WORD and skip(text, 0, LETTERS) == len(text)
 
 
 def is_number(text):
     """Return whether a text has one to three digits and no leading zeros."""
-    if len(text) > LONGEST_NUMBER or skip(text, 0, DIGITS) < len(text):
+    if not 1 <= len(text) <= LONGEST_NUMBER or skip(text, 0, DIGITS) < len(text):
         return False
     return text == "0" or text[0] != "0"
